@@ -1,0 +1,1 @@
+"""Causebook: what brings about what."""
