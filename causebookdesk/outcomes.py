@@ -5,3 +5,4 @@ WRONG = -1
 FULL = -2
 IMPOSSIBLE = -3
 NONE_THERE = -4
+TOO_FEW = -5

@@ -26,9 +26,13 @@ def is_group(net, number):
     return 0 <= number < 1 << len(net)
 
 
+def has(group, number):
+    return group >> number & 1 == 1
+
+
 # Bits beyond the net don't count, so that a group from outside need not be cut down first.
 def members(net, group):
-    return [number for number in range(len(net)) if group >> number & 1 == 1]
+    return [number for number in range(len(net)) if has(group, number)]
 
 
 def count_settings(net, chosen):
@@ -80,3 +84,7 @@ def look(net, number):
         return [WRONG]
     variable = net[number]
     return [DONE, variable.states, variable.parents] + variable.weights
+
+
+def count(net):
+    return [DONE, len(net)]

@@ -26,12 +26,17 @@ def all_worlds(net):
     return worlds
 
 
-def weight_in_table(net, number, world):
+# The parents have lower numbers: a world that is told only up to the variable is enough.
+def row_start(net, number, world):
     variable = net[number]
     row = 0
     for parent in members(net, variable.parents):
         row = row * net[parent].states + world[parent]
-    return variable.weights[row * variable.states + world[number]]
+    return row * variable.states
+
+
+def weight_in_table(net, number, world):
+    return net[number].weights[row_start(net, number, world) + world[number]]
 
 
 # The assignment that the document calls set is called forced in the code, since set is Python's own name.

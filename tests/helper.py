@@ -40,6 +40,39 @@ def ask(d, target, among, seen):
     return [7, d, target, among] + counted(seen)
 
 
+def draw(d, forced, words):
+    return [8, d] + counted(forced) + counted(words)
+
+
+def apart(d, noin, noout, a, b, given):
+    return [9, d, noin, noout, a, b, given]
+
+
+def enough(d, x, y, z):
+    return [10, d, x, y, z]
+
+
+def fewest(d, x, y, among):
+    return [11, d, x, y, among]
+
+
+def alike(d, e, names):
+    return [12, d, e] + counted(names)
+
+
+def sure(d, v):
+    return [13, d, v]
+
+
+def count(d):
+    return [14, d]
+
+
+def arrows(d, parents):
+    """A net of which only the arrows matter: variables of one state each, with these sets of parents."""
+    return [add(d, 1, group, [1]) for group in parents]
+
+
 def split(told):
     """The answers, each a list of its own."""
     parts = []
@@ -78,10 +111,17 @@ def garden(d):
     return [add(d, 2, 0, RAIN), add(d, 2, 1, SPRINKLER), add(d, 2, 3, WET)]
 
 
+# All six variables joined with one another.
+ALL_JOINED = [0, 1, 3, 7, 15, 31]
+
+
 class CallTest(unittest.TestCase):
-    def check_refused(self, before, call, refusal):
-        """The call answers the refusal alone, and both nets are as they were."""
+    def check_told(self, before, call, answer):
+        """The call answers this, and both nets are as they were."""
         parts = run(before + looks() + [call] + looks())
-        count = len(before)
-        self.assertEqual(parts[count + 12], [refusal], call)
-        self.assertEqual(parts[count:count + 12], parts[count + 13:], call)
+        length = len(before)
+        self.assertEqual(parts[length + 12], answer, call)
+        self.assertEqual(parts[length:length + 12], parts[length + 13:], call)
+
+    def check_refused(self, before, call, refusal):
+        self.check_told(before, call, [refusal])

@@ -1,9 +1,9 @@
-"""Promises 1 to 3, and look: clear, add, drop, look."""
+"""Promises 1 to 3, look and count: clear, add, drop, look, count."""
 
 import unittest
 
-from tests.helper import (FAR, OUTSIDE, RAIN, SPRINKLER, WET, CallTest, add, chance, clear, drop, garden, last, look,
-                          looks, run)
+from tests.helper import (ALL_JOINED, FAR, OUTSIDE, RAIN, SPRINKLER, WET, CallTest, add, arrows, chance, clear, count,
+                          drop, garden, last, look, looks, run)
 
 MOST_TOTAL = 2 ** 32 - 1
 
@@ -198,6 +198,29 @@ class LookTest(CallTest):
     def test_which_net(self):
         for d in OUTSIDE:
             self.check_refused(garden(0) + garden(1), look(d, 0), -1)
+
+
+class CountTest(CallTest):
+    def test_nets_of_0_to_6_variables(self):
+        for d in (0, 1):
+            for size in range(7):
+                self.check_told(arrows(d, ALL_JOINED[:size]), count(d), [0, size])
+                self.check_told(arrows(d, [0] * size), count(1 - d), [0, 0])
+
+    def test_each_net_by_itself(self):
+        self.assertEqual(run(garden(0) + arrows(1, [0, 1, 2, 4]) + [count(0), count(1)])[7:], [[0, 3], [0, 4]])
+
+    def test_after_calls_that_change_the_net(self):
+        self.assertEqual(run(garden(0) + [drop(0), count(0), clear(0), count(0)])[3:], [[0, 2], [0, 2], [0], [0, 0]])
+
+    def test_after_an_add_that_was_refused(self):
+        for wrong, refusal in ((add(0, 1, 64, [1]), -1), (add(0, 1, 0, [1]), -2)):
+            self.assertEqual(run([single()] * 6 + [wrong, count(0)])[6:], [[refusal], [0, 6]])
+
+    def test_which_net(self):
+        for d in OUTSIDE:
+            self.check_refused([], count(d), -1)
+            self.check_refused(garden(0) + garden(1), count(d), -1)
 
 
 if __name__ == "__main__":
